@@ -1,0 +1,1 @@
+"""Liftedladders: how far friends can lift themselves on a ladder of ratings."""
