@@ -1,7 +1,7 @@
 """Books: how two ratings change by a game."""
 
 from liftedladders.errors import BadBook, BadGame, BadPlace, TooMany
-from liftedladders.numbers import is_integer, is_whole
+from liftedladders.numbers import ascends, is_integer, is_whole
 
 RESULTS = ("upper", "draw", "lower")
 PARTS = ("low", "high", "table", "fresh", "times", "bonus")
@@ -38,7 +38,14 @@ def is_table(value):
         return False
     if not all([is_row(row) for row in value]) or value[0][0] != 0:
         return False
-    return all([value[at - 1][0] < value[at][0] for at in range(1, len(value))])
+    return ascends([row[0] for row in value])
+
+
+def row_at(table, difference):
+    """The row of a table that holds for a difference."""
+    if not is_whole(difference) or difference < 0:
+        raise BadGame(difference)
+    return [row for row in table if row[0] <= difference][-1]
 
 
 def kept_within(rating, low, high):
@@ -91,9 +98,7 @@ class Book:
 
     def __getitem__(self, at):
         """The row that holds for a difference."""
-        if not is_whole(at) or at < 0:
-            raise BadGame(at)
-        return [row for row in self.table if row[0] <= at][-1]
+        return row_at(self.table, at)
 
     def __iter__(self):
         raise TypeError("a book cannot be iterated")

@@ -12,7 +12,12 @@ def is_whole(value):
 
 def is_integer(value, lowest, highest):
     """Whether any value is an integer from lowest to highest."""
-    return is_whole(value) and lowest <= value <= highest
+    return isinstance(value, int) and not isinstance(value, bool) and lowest <= value <= highest
+
+
+def ascends(values):
+    """Whether each one of some values is above the one ahead of it."""
+    return all([values[at - 1] < values[at] for at in range(1, len(values))])
 
 
 def is_fraction(value):

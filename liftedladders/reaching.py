@@ -1,7 +1,8 @@
 """Which places friends who begin at a start reach, with climbs and closed lists that show it."""
 
 from liftedladders.errors import TooMany, UnknownPlace
-from liftedladders.numbers import is_integer
+from liftedladders.numbers import ascends, is_integer
+from liftedladders.ways import is_place
 
 MOST_MADE = 20000
 
@@ -21,6 +22,15 @@ def least_of(costs):
     return least
 
 
+def asked_by(ways):
+    """For each place the indexes of the moves that ask for friends there, each as often as it asks for one."""
+    asked = {place: [] for place in ways.places()}
+    for index, move in enumerate(ways.moves()):
+        for place in move[0]:
+            asked[place].append(index)
+    return asked
+
+
 def cheapest(ways, start):
     """For each reached place the fewest friends of a climb to it and the index of its last move.
 
@@ -28,7 +38,8 @@ def cheapest(ways, start):
     needs at least as many friends as each of its ins.
     """
     moves = ways.moves()
-    missing = [len(set(move[0])) for move in moves]
+    missing = [len(move[0]) for move in moves]
+    asked = asked_by(ways)
     found = {}
     costs = {start: 1}
     by = {start: None}
@@ -36,14 +47,13 @@ def cheapest(ways, start):
         place = least_of(costs)
         found[place] = (costs[place], by[place])
         del costs[place]
-        for index, move in enumerate(moves):
-            if place not in move[0]:
-                continue
+        for index in asked[place]:
             missing[index] -= 1
             if missing[index] > 0:
                 continue
-            need = sum([found[friend][0] for friend in move[0]])
-            for out in move[2]:
+            ins, _, outs = moves[index]
+            need = sum([found[friend][0] for friend in ins])
+            for out in outs:
                 if out not in found and (out not in costs or need < costs[out]):
                     costs[out] = need
                     by[out] = index
@@ -80,16 +90,21 @@ def is_climb(ways, start, place, value):
     check_known(ways, place)
     if not isinstance(value, list):
         return False
+    moves = ways.moves()
     ahead = {start: True}
+    # What can be made at one tuple can be made at all later ones, so it is looked at once.
+    makeable = {}
     last = start
     for entry in value:
         if not isinstance(entry, tuple) or len(entry) != 2:
             return False
         last, index = entry
-        if last not in ways or not is_integer(index, 0, len(ways) - 1) or last not in ways[index][2]:
+        if not is_integer(index, 0, len(moves) - 1) or not is_place(last) or last not in moves[index][2]:
             return False
-        if not all([friend in ahead for friend in ways[index][0]]):
-            return False
+        if index not in makeable:
+            if not all([friend in ahead for friend in moves[index][0]]):
+                return False
+            makeable[index] = True
         ahead[last] = True
     return last == place
 
@@ -97,21 +112,25 @@ def is_climb(ways, start, place, value):
 def friends_of(ways, start, climb):
     """The number of friends of a climb."""
     check_known(ways, start)
-    needs = {}
+    moves = ways.moves()
+    needs = {start: 1}
     friends = 1
     for place, index in climb:
-        friends = sum([1 if friend == start else needs[friend] for friend in ways[index][0]])
-        needs[place] = friends
+        friends = sum([needs[friend] for friend in moves[index][0]])
+        if place != start:
+            needs[place] = friends
     return friends
 
 
 def times_made(ways, start, climb):
     """For each tuple of a climb, how often its move is made so that the last one can be made once."""
+    moves = ways.moves()
     behind = {}
     sources = []
     for at, (place, index) in enumerate(climb):
-        sources.append([behind[friend] for friend in ways[index][0] if friend != start])
-        behind[place] = at
+        sources.append([behind[friend] for friend in moves[index][0] if friend in behind])
+        if place != start:
+            behind[place] = at
     times = [0 for _ in climb]
     if times:
         times[-1] = 1
@@ -121,17 +140,22 @@ def times_made(ways, start, climb):
     return times
 
 
+def written_out(ways, made):
+    """The list of the moves (index, times), one after the other."""
+    moves = ways.moves()
+    written = []
+    for index, times in made:
+        written.extend([moves[index]] * times)
+    return written
+
+
 def climb_moves(ways, start, climb):
     """The moves of a climb, each as often as friends need it, one after the other."""
     check_known(ways, start)
     times = times_made(ways, start, climb)
     if sum(times) > MOST_MADE:
         raise TooMany(MOST_MADE)
-    moves = []
-    for at, (_, index) in enumerate(climb):
-        for _ in range(times[at]):
-            moves.append(ways[index])
-    return moves
+    return written_out(ways, [(entry[1], many) for entry, many in zip(climb, times)])
 
 
 def is_closed(ways, start, place, value):
@@ -140,8 +164,8 @@ def is_closed(ways, start, place, value):
     check_known(ways, place)
     if not isinstance(value, list) or not all([entry in ways for entry in value]):
         return False
-    if not all([value[at - 1] < value[at] for at in range(1, len(value))]):
+    if not ascends(value) or start not in value or place in value:
         return False
-    if start not in value or place in value:
-        return False
-    return all([out in value for index in ways.within(value) for out in ways[index][2]])
+    moves = ways.moves()
+    there = {entry: True for entry in value}
+    return all([out in there for index in ways.within(value) for out in moves[index][2]])

@@ -5,7 +5,7 @@ from math import lcm
 from liftedladders.errors import BadMove, BadNumber, BadWorths, TooMany
 from liftedladders.lots import told_worths
 from liftedladders.numbers import added, is_above, is_fraction, is_integer, is_whole, less
-from liftedladders.reaching import MOST_MADE, check_known, climb, friends_of, reached, times_made
+from liftedladders.reaching import MOST_MADE, check_known, climb, friends_of, reached, times_made, written_out
 from liftedladders.simplex import Simplex
 
 MOST_WORTH = 999
@@ -90,12 +90,13 @@ def has_batch_form(value, indexes):
     """Whether any value is a list of tuples (index, fraction above 0), ascending, with some of the indexes."""
     if not isinstance(value, list):
         return False
+    among = {index: True for index in indexes}
     last = -1
     for entry in value:
         if not isinstance(entry, tuple) or len(entry) != 2:
             return False
         index, times = entry
-        if not is_whole(index) or index <= last or index not in indexes:
+        if not is_whole(index) or index <= last or index not in among:
             return False
         if not is_fraction(times) or times[0] < 1:
             return False
@@ -110,8 +111,9 @@ def rest_behind(ways, start, value):
         return None
     rest = {place: (0, 1) for place in places}
     rest[start] = (1, 1)
+    moves = ways.moves()
     for index, times in value:
-        ins, _, outs = ways[index]
+        ins, _, outs = moves[index]
         for place in ins:
             rest[place] = less(rest[place], times)
         for place in outs:
@@ -164,11 +166,6 @@ def worth_of(ways, start, worths, friends, made):
         gain = sum([worths[place] for place in outs]) - sum([worths[place] for place in ins])
         together = together + times * gain
     return together
-
-
-def written_out(ways, made):
-    """The list of the moves (index, times), one after the other."""
-    return [move for index, times in made for move in [ways[index]] * times]
 
 
 def lift(ways, start, worths, mean):

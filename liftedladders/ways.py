@@ -10,7 +10,12 @@ SIZES = (1, 2, 4)
 
 def is_place(value):
     """Whether any value is a tuple of one or more integers."""
-    return isinstance(value, tuple) and len(value) > 0 and all([is_whole(part) for part in value])
+    if not isinstance(value, tuple) or len(value) == 0:
+        return False
+    for part in value:
+        if not is_whole(part):
+            return False
+    return True
 
 
 def is_move(value):

@@ -266,6 +266,44 @@ class ClimbMovesTest(Case):
         self.assert_same(climb_moves(ways, A, row[:-1]), [ways[0]])
 
 
+class LongClimbsTest(Case):
+    def test_doublings(self):
+        doublings = [(((at,), (at,)), "", ((at + 1,), (at,))) for at in range(15)]
+        chain = Ways([(at,) for at in range(16)], doublings)
+        rows = [((at + 1,), at) for at in range(15)]
+        moves = climb_moves(chain, (0,), rows[:-1])
+        self.assertEqual(len(moves), 16383)
+        self.assertEqual(moves, [move for at, move in enumerate(doublings[:-1]) for _ in range(2 ** (13 - at))])
+        self.refuses(TooMany, "limit", 20000, climb_moves, chain, (0,), rows)
+        self.assert_same([friends_of(chain, (0,), rows[:many]) for many in range(16)], [2 ** at for at in range(16)])
+
+    def test_to_and_fro(self):
+        moves = [((A,), "", (B,)), ((B,), "", (C,)), ((C,), "", (B,))]
+        ways = Ways([A, B, C], moves)
+        rows = [(B, 0)] + [(C, 1), (B, 2)] * 750
+        self.assertEqual(len(rows), 1501)
+        self.assert_same(climb_moves(ways, A, rows), [moves[index] for _, index in rows])
+        self.assert_same(friends_of(ways, A, rows), 1)
+        self.assert_truth(is_climb(ways, A, B, rows), True)
+        self.assert_truth(is_climb(ways, A, C, rows), False)
+        self.assert_truth(is_climb(ways, A, C, rows[:-1]), True)
+        self.assert_truth(is_climb(ways, A, C, tuple(rows[:-1])), False)
+        for odd in ODD + ((C, True), (B, False), (C, 3), (C, -1), (C, -2), (C, "1"), (C, None), [C, 1], ([2], 1),
+                          (C, 1, 0), (C,), ((9,), 1), ((2, 0), 1), ((True,), 2), (2, 1), (A, 1), (B, 1)):
+            for last in (B, C):
+                self.assert_truth(is_climb(ways, A, last, rows + [odd]), False)
+        self.assert_truth(is_climb(ways, A, C, rows + [(C, 1)]), True)
+        self.assert_truth(is_climb(ways, A, B, rows + [(B, 0)]), True)
+
+    def test_what_cannot_be_made_behind_what_can(self):
+        ways = Ways([A, B, C, D], [UP, FOUR, BACK, AWAY])
+        rows = [(B, 0), (A, 2)] * 500
+        self.assert_truth(is_climb(ways, A, A, rows), True)
+        self.assert_truth(is_climb(ways, A, C, rows + [(C, 1)]), True)
+        self.assert_truth(is_climb(ways, A, C, rows + [(C, 3)]), False)
+        self.assert_truth(is_climb(ways, A, C, [(C, 1)] + rows + [(C, 1)]), False)
+
+
 class ClosedTest(Case):
     def test_is_closed(self):
         ways = small_ways()
