@@ -30,8 +30,15 @@ INTERFACE = {
     "alone": """lone(ways, start, honest)  joint(ways, start, honest)  lifted(ways, start, honest)
         lone_within(ways, start, honest, games)  lone_run(ways, start, honest, place)
         lone_paper(ways, start, honest, place)  lets_lone(ways, start, honest, place, value)""",
+    "duels": "Duel(table)  Duel.step(difference, result)  Duel.window(first)  Duel.play(first, results)",
+    "longruns": """long_run(duel, first)  long_paper(duel, first)  bound_paper(duel, first)
+        lets_long(duel, first, value)  lets_bound(duel, first, value)""",
+    "bouts": """Day(bouts)  Day.players()  Day.in_order(indexes)  after_day(book, places, day)  ends(book, places, day)
+        counts(book, places, day)  witness(book)  is_orderless(book)  lets_witness(book, value)""",
+    "rests": """row_behind(book, one, other, row)  course(book, one, other, row)  rests(book, one, other, row)
+        restless(book, row)  resting(book, row)""",
 }
-GENERATORS = {"games_of", "lots_behind", "hands_behind"}
+GENERATORS = {"games_of", "lots_behind", "hands_behind", "Duel.play"}
 
 
 def listed():
