@@ -1,6 +1,5 @@
 """Days of bouts, and whether the order of their games counts."""
 
-from liftedladders.books import is_result
 from liftedladders.errors import BadBout, BadHand, TooMany
 from liftedladders.numbers import is_integer
 

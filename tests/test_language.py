@@ -80,6 +80,11 @@ class LanguageTest(unittest.TestCase):
                         self.assertEqual(node.module.split(".")[0], "liftedladders", path)
                         self.assertLessEqual(names, defined(node.module.split(".")[1]), path)
 
+    def test_imports_are_used(self):
+        for path, tree in trees():
+            imported = {name.name for node in tree.body if isinstance(node, ast.ImportFrom) for name in node.names}
+            self.assertLessEqual(imported, {node.id for node in ast.walk(tree) if isinstance(node, ast.Name)}, path)
+
     def test_names(self):
         for path, tree in trees():
             names = set(bound(tree))

@@ -5,7 +5,6 @@ from math import lcm
 import random
 import unittest
 
-from liftedladders.books import Book
 from liftedladders.errors import BadMove, BadNumber, BadWorths, TooMany, UnknownPlace
 from liftedladders.lots import Lot, lots_behind
 from liftedladders.numbers import is_fraction
