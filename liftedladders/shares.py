@@ -32,9 +32,8 @@ def taken_by(move, rows):
     return tuple([(row, taken[row]) for row in sorted(set(taken)) if taken[row] != 0])
 
 
-def solved(ways, start, worths):
-    """The reached places, the moves that were looked at by their indexes, and the Simplex over both."""
-    places = reached(ways, start)
+def columns_of(ways, places):
+    """The dict from each reached place to its row, and the dict from what moves take away to the first such move."""
     rows = {place: row for row, place in enumerate(places)}
     moves = ways.moves()
     # Of moves that take the same away, the first one does for all.
@@ -43,6 +42,13 @@ def solved(ways, start, worths):
         taken = taken_by(moves[index], rows)
         if taken and taken not in first:
             first[taken] = index
+    return (rows, first)
+
+
+def solved(ways, start, worths):
+    """The reached places, the moves that were looked at by their indexes, and the Simplex over both."""
+    places = reached(ways, start)
+    rows, first = columns_of(ways, places)
     columns = list(first)
     indexes = [first[column] for column in columns]
     return (places, indexes, Simplex([worths[place] for place in places], columns, rows[start]))

@@ -3,6 +3,27 @@
 from liftedladders.numbers import fraction
 
 
+def is_quick(column):
+    """Whether a column takes away one or two and brings as many."""
+    return sum([number for _, number in column if number > 0]) <= 2
+
+
+def seats(column):
+    """Where two friends come by a quick column, and where they are taken away: places in a row of prices."""
+    outs = []
+    ins = []
+    for row, number in column:
+        for _ in range(-number):
+            outs.append(row + 1)
+        for _ in range(number):
+            ins.append(row + 1)
+    # One friend alone comes with another one who stays where the first one was.
+    if len(ins) == 1:
+        outs.append(ins[0])
+        ins.append(ins[0])
+    return tuple(outs + ins)
+
+
 class Simplex:
     """How the friends of one start come to the greatest worth.
 
@@ -19,6 +40,9 @@ class Simplex:
         size = len(worths)
         self._worths = list(worths)
         self._columns = list(columns)
+        # Columns of one or two friends stand apart: their gains are told soonest.
+        self._quick = [(at, *seats(column)) for at, column in enumerate(columns) if is_quick(column)]
+        self._slow = [(at, column) for at, column in enumerate(columns) if not is_quick(column)]
         self._under = 1
         self._basis = [-1 - row for row in range(size)]
         self._table = [[1 if row == first else 0] + [1 if row == at else 0 for at in range(size)]
@@ -52,7 +76,12 @@ class Simplex:
             if gain > best:
                 best = gain
                 entering = -1 - row
-        for at, column in enumerate(self._columns):
+        for at, out, out_too, here, here_too in self._quick:
+            gain = prices[out] + prices[out_too] - prices[here] - prices[here_too]
+            if gain > best:
+                best = gain
+                entering = at
+        for at, column in self._slow:
             gain = 0
             for row, number in column:
                 gain -= number * prices[row + 1]
@@ -84,6 +113,8 @@ class Simplex:
     def _turned(self, line, told, pivot, take):
         """A line behind the change of the basis; the division leaves no remainder."""
         under = self._under
+        if take == 0 and pivot == under:
+            return line
         return [(one * pivot - take * other) // under for one, other in zip(line, told)]
 
     def _leaving(self, takes):

@@ -29,6 +29,13 @@ class Case(unittest.TestCase):
         self.assertIs(type(caught.exception), error)
         self.assert_same(getattr(caught.exception, name), kept)
 
+    def refuses_itself(self, error, name, odd, call, *told, **named):
+        """Refused with an error that keeps just this object, whatever it is equal to."""
+        with self.assertRaises(error) as caught:
+            call(*told, **named)
+        self.assertIs(type(caught.exception), error)
+        self.assertIs(getattr(caught.exception, name), odd)
+
     def assert_same(self, one, other):
         """Equal, and of one kind: True is not 1."""
         self.assertEqual(repr(one), repr(other))

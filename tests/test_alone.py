@@ -335,11 +335,6 @@ class RefusedTest(Case):
                 self.refuses(BadHonest, "index", 1, call, small_ways(), A, [A, 0], odd, *told)
                 self.refuses(BadHonest, "index", None, call, small_ways(), A, None, odd, *told)
 
-    def refuses_itself(self, error, name, odd, call, *told):
-        with self.assertRaises(error) as caught:
-            call(*told)
-        self.assertIs(getattr(caught.exception, name), odd)
-
     def test_what_is_handed_in_stays(self):
         honest = [A, C, A]
         for call, told in self.calls:

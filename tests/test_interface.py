@@ -37,8 +37,20 @@ INTERFACE = {
         counts(book, places, day)  witness(book)  is_orderless(book)  lets_witness(book, value)""",
     "rests": """row_behind(book, one, other, row)  course(book, one, other, row)  rests(book, one, other, row)
         restless(book, row)  resting(book, row)""",
+    "chances": """Chances(rows)  Chances.__call__(one, other)  Chances.rows()
+        drift(book, chances, place, strength, other, others)  turns(book, chances, strength, opponents)
+        summit(book, chances, strength, opponents, rating)
+        greatest_mean(book, chances, place, strength, opponents, games)
+        best_plan(book, chances, place, strength, opponents, games)
+        mean_of(book, chances, place, strength, opponents, games, plan)""",
+    "extras": """reset_moves(book, middle, part)  fade_moves(book, above)  team_game(book, upper, lower, result)
+        team_moves(book)  feeds(ways, more, start, worths)""",
+    "mends": """is_change(book, value)  mended(book, menu, choice)  rises(book, rating, others)  meets(book, wish)
+        least_mends(book, menu, wishes)  greatest_kept(book, menu, wishes)  quarrels(book, menu, wishes)""",
+    "told": """explains(low, high, games, table)  fewest_rows(low, high, games)  told_table(low, high, games)
+        unlike_games(low, high, games)  may_follow(low, high, games, upper, lower, result)""",
 }
-GENERATORS = {"games_of", "lots_behind", "hands_behind", "Duel.play"}
+GENERATORS = {"games_of", "lots_behind", "hands_behind", "Duel.play", "team_moves"}
 
 
 def listed():

@@ -156,12 +156,6 @@ class RefusedTest(Case):
                 self.refuses_itself(BadPlace, "place", odd, call, simple_book(), odd, None, ["one"])
                 self.refuses_itself(BadPlace, "place", odd, call, simple_book(), (0, 0), odd, ["one"])
 
-    def refuses_itself(self, error, name, odd, call, *told):
-        with self.assertRaises(error) as caught:
-            call(*told)
-        self.assertIs(type(caught.exception), error)
-        self.assertIs(getattr(caught.exception, name), odd)
-
 
 if __name__ == "__main__":
     unittest.main()
