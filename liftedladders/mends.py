@@ -1,6 +1,6 @@
 """Mends: which changes of a book bar a lift, and which wishes quarrel."""
 
-from liftedladders.books import Book, MOST_RATING, RESULTS, is_entry, is_result
+from liftedladders.books import Book, MOST_RATING, RESULTS, is_result
 from liftedladders.errors import BadBook, BadChoice, BadMenu, BadWish, TooMany
 from liftedladders.numbers import ascends, is_above, is_fraction, is_integer
 from liftedladders.reaching import reached
@@ -15,13 +15,11 @@ SINGLE = ("low", "high", "times", "bonus")
 
 
 def has_change_form(book, value):
-    """Whether any value has the form of a change of the book, whatever numbers it puts in."""
-    if not isinstance(value, tuple) or len(value) < 2 or not isinstance(value[0], str):
+    """Whether any value has the form of a change of the book, whatever it puts in."""
+    if not isinstance(value, tuple) or len(value) == 0 or not isinstance(value[0], str):
         return False
     if value[0] == "entry":
-        if len(value) != 4 or not is_integer(value[1], 0, len(book.table) - 1):
-            return False
-        return is_result(value[2]) and is_entry(value[3])
+        return len(value) == 4 and is_integer(value[1], 0, len(book.table) - 1) and is_result(value[2])
     return len(value) == 3 if value[0] == "fresh" else value[0] in SINGLE and len(value) == 2
 
 

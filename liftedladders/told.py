@@ -33,8 +33,8 @@ def check_told_games(low, high, games):
 
 
 def is_told_row(value):
-    """Whether any value is a border, of any size, and three entries."""
-    if not isinstance(value, tuple) or len(value) != 4 or not is_whole(value[0]) or value[0] < 0:
+    """Whether any value is a border and three entries."""
+    if not isinstance(value, tuple) or len(value) != 4 or not is_whole(value[0]):
         return False
     return all([entry is not None and is_entry(entry) for entry in value[1:]])
 

@@ -49,6 +49,23 @@ INTERFACE = {
         least_mends(book, menu, wishes)  greatest_kept(book, menu, wishes)  quarrels(book, menu, wishes)""",
     "told": """explains(low, high, games, table)  fewest_rows(low, high, games)  told_table(low, high, games)
         unlike_games(low, high, games)  may_follow(low, high, games, upper, lower, result)""",
+    "likeness": "are_alike(one, other, rating)  first_unlike(one, other, rating)",
+    "ladder": """Ladder(book)  Ladder.join(name, rating)  Ladder.enter(one, other, result)  Ladder.rebook(book)
+        Ladder.names()  Ladder.__call__(name)  Ladder.order()  Ladder.games()  Ladder.undo()  Ladder.attempt(deed)
+        Ladder.trying()""",
+    "texts": "write_book(book)  write_games(games)  read_book(text)  read_games(text)",
+    "console": "Console(book)  Console.say(row)",
+}
+# What the interface tells by signs, as the methods behind them.
+SIGNS = {
+    "books": {"Book": ["__len__", "__contains__", "__getitem__", "__eq__", "__iter__"]},
+    "ways": {"Ways": ["__len__", "__contains__", "__getitem__", "__add__", "__eq__", "__iter__"]},
+    "lots": {"Lot": ["__getitem__", "__contains__", "__add__", "__le__", "__eq__", "__iter__"]},
+    "few": {"Goal": ["__call__", "__le__", "__eq__"]},
+    "duels": {"Duel": ["__getitem__", "__eq__"]},
+    "bouts": {"Day": ["__len__", "__add__", "__eq__"]},
+    "chances": {"Chances": ["__call__", "__len__", "__eq__"]},
+    "ladder": {"Ladder": ["__call__", "__len__", "__contains__", "__getitem__", "book"]},
 }
 GENERATORS = {"games_of", "lots_behind", "hands_behind", "Duel.play", "team_moves"}
 
@@ -76,6 +93,20 @@ class InterfaceTest(unittest.TestCase):
     def test_each_stands_in_its_file(self):
         for module, name, _ in listed():
             self.assertIn(name, list(defined(module)), module)
+
+    def test_signs_stand_in_their_class(self):
+        for module, classes in SIGNS.items():
+            for name, methods in classes.items():
+                for method in methods:
+                    self.assertIn(name + "." + method, list(defined(module)), module)
+
+    def test_modules(self):
+        self.assertEqual({path.stem for path in PACKAGE.glob("*.py")} - {"__init__", "simplex"}, {"errors", *INTERFACE})
+
+    def test_book_is_a_property(self):
+        ladder = importlib.import_module("liftedladders.ladder").Ladder
+        self.assertIsInstance(ladder.book, property)
+        self.assertIsNotNone(ladder.book.fset)
 
     def test_arguments(self):
         for module, name, told in listed():

@@ -12,6 +12,8 @@ BUILTINS = set("""len range enumerate zip min max sum abs sorted reversed int st
     frozenset isinstance ord repr any all divmod iter next map super property staticmethod classmethod Exception
     ValueError TypeError KeyError IndexError LookupError ZeroDivisionError ArithmeticError OverflowError RuntimeError
     NotImplementedError AttributeError StopIteration NotImplemented""".split())
+# Doctest leaves a "_" there.
+ALL_BUILTINS = set(dir(builtins)) - {"_"}
 LIBRARY = {"math": {"gcd", "lcm", "isqrt", "comb", "perm", "factorial"},
            "itertools": {"product", "combinations", "permutations"}}
 METHODS = set("""append clear copy count endswith extend find get index insert isalnum isalpha isdigit islower isspace
@@ -88,14 +90,14 @@ class LanguageTest(unittest.TestCase):
     def test_names(self):
         for path, tree in trees():
             names = set(bound(tree))
-            self.assertFalse(names & set(dir(builtins)), path)
+            self.assertFalse(names & ALL_BUILTINS, path)
             self.assertFalse(names & set(keyword.softkwlist) - {"_"}, path)
             taken = {node.name for node in tree.body if isinstance(node, ast.ClassDef)}
             taken |= {name.name for node in tree.body if isinstance(node, ast.ImportFrom) for name in node.names}
             inner = [name for name in bound(tree) if name in taken]
             self.assertEqual(len(inner), len([name for name in inner if name in defined(path.stem)]), (path, inner))
             for node in ast.walk(tree):
-                if isinstance(node, ast.Name) and node.id in dir(builtins):
+                if isinstance(node, ast.Name) and node.id in ALL_BUILTINS:
                     self.assertIn(node.id, BUILTINS, (path, node.lineno))
 
     def test_barred(self):

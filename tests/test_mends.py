@@ -173,7 +173,7 @@ class ChangesTest(Case):
                           ("entry", True, "upper", None), ("entry", 0, "one", None), ("entry", 0, None, None),
                           ("entry", 0, "upper", (10, 0)), ("entry", 0, "upper", [1, 1]), ("entry", 0, "upper", (1,)),
                           ("entry", 0, "upper", (1, False)), ("entry", 0, "upper", 0), ("table", TABLE), ("Low", 1),
-                          ("low",), (None, 1), (["low"], 1), (EqualToAll(), 1), ("low", EqualToAll()), EqualToAll(),
+                          ("low",), (None, 1), (["low"], 1), (EqualToAll(), 1), (EqualToAll(), 0, "upper", None), ("low", EqualToAll()), EqualToAll(),
                           ("entry", EqualToAll(), "upper", None), ("entry", 0, EqualToAll(), None),
                           ("entry", 0, "upper", EqualToAll()), (), ("fresh",), ("entry",), ("low", "1")):
             self.assert_truth(is_change(book, bad), False)
@@ -296,15 +296,19 @@ class WishesTest(Case):
             self.assert_truth(meets(wish=wish, book=book), told)
 
     def test_shares_between(self):
-        # Each game makes one up and one down: half of them stand at 2 or above at the most.
-        book = Book(0, 2, [(0, (1, -1), None, None), (1, None, None, None)])
-        share = share_at(ways_of(book), (1, 0), [(2, 0)])
-        self.assertEqual(share, (1, 1))
-        lossy = Book(0, 2, [(0, (1, -1), None, None), (1, (-1, -1), None, None)])
-        share = share_at(ways_of(lossy), (1, 0), [(2, 0)])
-        for part in (-1, 0, 1):
-            wish = ("bar", 1, 2, fraction(100 * share[0] + part, 100 * share[1]))
-            self.assert_truth(meets(lossy, wish), part >= 0 or share[0] * 100 + part >= share[1] * 100)
+        # Two of three newcomers with rating 3 can be lifted to 4.
+        book = Book(0, 4, [(0, None, None, (-1, 0)), (2, (1, -2), (0, 0), (-2, 2)), (3, (-2, 1), None, (-1, -2))],
+                    fresh=1, times=2)
+        self.assert_same(share_at(ways_of(book), (3, 1), [(4, 0), (4, 1)]), (2, 3))
+        for share, told in (((2, 3), True), ((1999, 3000), False), ((2001, 3000), True), ((3, 5), False), ((0, 1), False),
+                            ((-1, 1), False), ((999, 1000), True)):
+            self.assert_truth(meets(book, ("bar", 3, 4, fraction(*share))), told)
+        wishes = [("bar", 3, 4, (1, 2)), ("bar", 3, 4, (2, 3)), ("bar", 3, 4, (3, 4))]
+        menu = [("entry", 0, "lower", None), ("high", 5), ("times", 3)]
+        self.assert_same(greatest_kept(book, menu[1:2], wishes[:1]), told_kept(told_met(book, menu[1:2], wishes[:1])))
+        self.assert_same(least_mends(book, menu, wishes[:1]), told_least(told_met(book, menu, wishes[:1]), wishes[:1]))
+        self.assert_same(least_mends(book, menu, wishes[1:]), [()])
+        self.assert_same(least_mends(book, menu, wishes)[:1], [(0,)])
 
     def test_rises(self):
         book = Book(1, 5, TABLE)
@@ -340,7 +344,7 @@ class WishesTest(Case):
 
     def test_refused(self):
         book, menu = Book(0, 2, TABLE), [("high", 3)]
-        odd_wishes = ODD + (("none", 1), ("even", None), ("None",), ("bars",), ("bar",), ("rise",), ["none"],
+        odd_wishes = ODD + (("none", 1), ("even", None), ("None",), ("bars",), ("bars", 0, 1, (1, 2)), ("Rise", 0, 1, ()), ("bar",), ("rise",), ["none"],
                             ("bar", 0, 1), ("bar", 0, 1, (1, 2), 0), ("bar", -1, 1, (1, 2)), ("bar", 24, 1, (1, 2)),
                             ("bar", 0, -1, (1, 2)), ("bar", 0, 24, (1, 2)), ("bar", True, 1, (1, 2)), ("bar", 0, True, (1, 2)),
                             ("bar", 0, 1, (2, 4)), ("bar", 0, 1, 1), ("bar", 0, 1, [1, 2]), ("bar", 0, 1, (1, 0)),
