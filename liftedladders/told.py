@@ -5,7 +5,7 @@ from liftedladders.errors import BadGame, BadNumber, BadTold
 from liftedladders.numbers import ascends, is_integer, is_whole
 
 # A span tells the entries (a, b) of one result: the least and the greatest a, the least and the greatest b.
-ALL_ENTRIES = (-MOST_CHANGE, MOST_CHANGE, -MOST_CHANGE, MOST_CHANGE)
+ALL_ENTRIES = (-9, 9, -9, 9)
 
 
 def is_told_game(low, high, value):
