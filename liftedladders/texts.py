@@ -57,10 +57,11 @@ def read_parts(words):
     told = {"fresh": 0, "times": 1, "bonus": 0}
     for names in (["low", "high"], ["fresh", "times"], ["bonus"]):
         count = 2 * len(names)
-        if words[:1] != names[:1]:
+        may_lack = names[0] != "low"
+        if may_lack and words[:1] != names[:1]:
             continue
         numbers = numbers_behind_names(words[:count], names)
-        if numbers is None or (names[0] != "low" and numbers[0] < 1):
+        if numbers is None or (may_lack and numbers[0] < 1):
             return None
         for name, number in zip(names, numbers):
             told[name] = number

@@ -189,7 +189,8 @@ class RefusedTest(Case):
             for odd in ("Upper", "win", "1", "one"):
                 self.refuses(BadGame, "value", odd, self.console.say, f"{ahead}play a b {odd}")
             for text, index in (("x", 0), ("low 0 high 9; x", 1), ("low 0 high 9 ; 0 - - -", 0), ("none", 0), ("-", 0),
-                                ("low 0 high 9; 0 - - -; 1 - -", 2), ("low 0 high 9 bonus 0; 0 - - -", 0)):
+                                ("low 0 high 9; 0 - - -; 1 - -", 2), ("low 0 high 9 bonus 0; 0 - - -", 0), ("bonus 1", 0),
+                                ("bonus 1; 0 - - -", 0), ("fresh 1 times 2", 0), ("fresh 1 times 2; 0 - -", 0)):
                 self.refuses(BadText, "index", index, self.console.say, f"{ahead}book {text}")
             self.refuses(BadBook, "part", "high", self.console.say, f"{ahead}book low 3 high 2; 0 - - -")
             self.refuses(BadBook, "part", "table", self.console.say, f"{ahead}book low 0 high 9")

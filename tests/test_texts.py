@@ -1,6 +1,8 @@
 """Promises: books and games as texts, and what texts are read as; their errors in order."""
 
+import itertools
 import random
+import re
 import unittest
 
 from liftedladders.books import Book
@@ -11,6 +13,9 @@ from tests.support import Case, EqualToAll, ODD, simple_book, some_book
 NO_TEXTS = ODD[:3] + ODD[5:] + (b"low 0 high 2; 0 - - -", ["low 0 high 2; 0 - - -"], 0, EqualToAll())
 NO_NUMBERS = ("-0", "00", "01", "-01", "+1", "1.0", "12345", "-12345", "00001", "", "-", "--1", "1-", "x", "1x", "\u0661",
               "\xb2", "0x1", "1_0", "1\n", "\t1")
+NUMBER = "(?:0|-?[1-9][0-9]{0,3})"
+ABOVE_0 = "[1-9][0-9]{0,3}"
+FIRST_ROW = re.compile(f"low {NUMBER} high {NUMBER}(?: fresh {ABOVE_0} times {NUMBER})?(?: bonus {ABOVE_0})?")
 
 
 class BooksTest(Case):
@@ -56,6 +61,49 @@ class BooksTest(Case):
             for text in ("low {} high 2", "low 0 high {}", "low 0 high 2 fresh {} times 1", "low 0 high 2 fresh 1 times {}",
                          "low 0 high 2 bonus {}"):
                 self.refuses(BadText, "index", 0, read_book, text.format(odd) + rows)
+
+    def test_first_rows_that_do_not_begin_with_low(self):
+        rows = "; 0 1/-1 0/0 -1/1"
+        for odd in ("fresh 1 times 2", "bonus 1", "fresh 1 times 1 bonus 2", "fresh 2 times 3", "high 2", "high 2 low 0",
+                    "fresh 1 times 2 low 0 high 2", "bonus 1 low 0 high 2", "high 2 bonus 1", "0 high 2", "fresh 1", "bonus"):
+            for text in (odd, odd + rows, odd + rows + rows, odd + "; 0 1/-1 0/0", odd + "; odd", odd + rows + "; odd", odd + "; "):
+                self.refuses(BadText, "index", 0, read_book, text)
+
+    def test_parts_in_any_order(self):
+        parts = ("low 0 high 2", "fresh 1 times 2", "bonus 1")
+        for many in range(4):
+            for chosen in itertools.permutations(parts, many):
+                text = " ".join(chosen) + "; 0 1/-1 0/0 -1/1"
+                if chosen == parts:
+                    self.refuses(BadBook, "part", "bonus", read_book, text)
+                elif chosen[:1] == parts[:1] and list(chosen) == sorted(chosen, key=parts.index):
+                    self.assert_same(write_book(read_book(text)), text)
+                else:
+                    self.refuses(BadText, "index", 0, read_book, text)
+
+    def test_many_first_rows(self):
+        chance = random.Random(193)
+        parts = ("low 0 high 2", "fresh 1 times 2", "bonus 1")
+        words = " ".join(parts).split(" ")
+        seen = [0, 0]
+        for _ in range(4000):
+            chosen = " ".join([part for part in parts if chance.random() < 0.8]).split(" ")
+            if chance.random() < 0.3:
+                chosen.pop(chance.randint(0, len(chosen) - 1))
+            if chance.random() < 0.3:
+                chosen.insert(chance.randint(0, len(chosen)), chance.choice(words + ["-1", "24", "x", ""]))
+            row = " ".join(chosen)
+            seen[FIRST_ROW.fullmatch(row) is not None] += 1
+            # The odd row behind a first row of the form is the one that is named.
+            index = 0 if FIRST_ROW.fullmatch(row) is None else 1
+            self.refuses(BadText, "index", index, read_book, row + "; odd")
+            try:
+                self.assert_same(write_book(read_book(row + "; 0 - - -")), row + "; 0 - - -")
+            except BadText as told:
+                self.assertEqual((told.index, index), (0, 0))
+            except BadBook:
+                self.assertEqual(index, 1)
+        self.assertGreater(min(seen), 200)
 
     def test_rows_without_the_form(self):
         good = "0 1/-1 0/0 -1/1"
